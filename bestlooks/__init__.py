@@ -1,0 +1,1 @@
+"""Bestlooks: where to measure, for all designs, with papers."""
