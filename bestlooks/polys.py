@@ -27,7 +27,10 @@ class Poly:
         return _sum(self, poly)
 
     def __radd__(self, other):
-        return self + other
+        poly = _as_poly(other)
+        if poly is None:
+            return NotImplemented
+        return _sum(poly, self)
 
     def __sub__(self, other):
         poly = _as_poly(other)
@@ -36,7 +39,10 @@ class Poly:
         return _sum(self, -poly)
 
     def __rsub__(self, other):
-        return -self + other
+        poly = _as_poly(other)
+        if poly is None:
+            return NotImplemented
+        return _sum(poly, -self)
 
     def __mul__(self, other):
         poly = _as_poly(other)
@@ -45,7 +51,10 @@ class Poly:
         return _product(self, poly)
 
     def __rmul__(self, other):
-        return self * other
+        poly = _as_poly(other)
+        if poly is None:
+            return NotImplemented
+        return _product(poly, self)
 
     def __neg__(self):
         return Poly([(-top, bottom) for top, bottom in self.numbers])
@@ -101,12 +110,15 @@ def _product(one, other):
     """The product of two Polys."""
     tops, bottom = together(one.numbers)
     factors, low = together(other.numbers)
-    size = len(tops) + len(factors)
-    sums = [0] * size
-    for i, top in enumerate(tops):
-        for j, factor in enumerate(factors):
-            sums[i + j] = sums[i + j] + top * factor
-    return Poly([(total, bottom * low) for total in sums])
+    many = len(tops) + len(factors) - 1
+    return Poly([(_number_at(tops, factors, power), bottom * low) for power in range(many)])
+
+
+def _number_at(tops, factors, power):
+    """The number of one power in the product of two rows of integers."""
+    first = max(0, power - len(factors) + 1)
+    last = min(power, len(tops) - 1)
+    return sum([tops[k] * factors[power - k] for k in range(first, last + 1)])
 
 
 def divided(one, other):

@@ -20,6 +20,27 @@ FUNCTIONS = {
         "divided": ("one", "other"),
         "common": ("one", "other"),
     },
+    "bestlooks.sums": {
+        "largest": ("rows", "right", "worth"),
+        "is_largest": ("rows", "right", "worth", "told"),
+    },
+    "bestlooks.tables": {
+        "solved": ("one", "right"),
+        "squares_of": ("one",),
+        "is_squares": ("one", "told"),
+    },
+    "bestlooks.looks": {
+        "width": ("looks",),
+        "row_at": ("looks", "place"),
+        "table_of": ("looks", "design"),
+        "form_at": ("looks", "table", "place"),
+        "form_on": ("curve", "table"),
+        "best_weights": ("looks", "design", "c"),
+        "spread_of": ("looks", "design", "c"),
+        "can_tell": ("looks", "c"),
+        "is_told_rightly": ("looks", "c", "told"),
+        "rank_of": ("looks",),
+    },
 }
 
 CLASSES = {
@@ -51,6 +72,35 @@ CLASSES = {
             "slope": ("self",),
             "moved": ("self", "start", "step"),
         },
+    },
+    "bestlooks.sums": {
+        "Reached": {"__init__": ("self", "number", "spots", "weights")},
+        "Endless": {"__init__": ("self", "spots", "run")},
+        "Nothing": {"__init__": ("self", "weights")},
+    },
+    "bestlooks.tables": {
+        "Table": {
+            "__init__": ("self", "rows"),
+            "__eq__": ("self", "other"),
+            "__add__": ("self", "other"),
+            "__sub__": ("self", "other"),
+            "__mul__": ("self", "other"),
+            "turned": ("self",),
+            "rank": ("self",),
+            "det": ("self",),
+            "inverse": ("self",),
+        },
+        "Answer": {"__init__": ("self", "row")},
+        "NoAnswer": {"__init__": ("self", "row")},
+        "Squares": {"__init__": ("self", "weights", "rows")},
+        "BelowNought": {"__init__": ("self", "row", "number")},
+    },
+    "bestlooks.looks": {
+        "Rows": {"__init__": ("self", "rows")},
+        "Curve": {"__init__": ("self", "low", "high", "polys")},
+        "Design": {"__init__": ("self", "places", "shares"), "__eq__": ("self", "other")},
+        "Sum": {"__init__": ("self", "places", "numbers")},
+        "Hidden": {"__init__": ("self", "z")},
     },
 }
 
