@@ -3,8 +3,8 @@
 from bestlooks.errors import BadNumber, BadRow, Unlike
 from bestlooks.grids import is_odd, pivoted, reduced
 from bestlooks.ratios import lowest, minus, plus, share, times, together
-from bestlooks.vectors import are_rows, combined, dot, is_above, is_all_nought, is_below, is_exact, is_exact_row
-from bestlooks.vectors import is_row, kept, pair, pairs, scaled, whole
+from bestlooks.vectors import are_rows, combined, divisor, dot, is_above, is_all_nought, is_below, is_exact
+from bestlooks.vectors import is_exact_row, is_row, kept, pair, pairs, scaled, whole
 
 
 class Table:
@@ -160,28 +160,36 @@ def form_of(table, row):
 def squares_of(one):
     """Squares(weights, rows) that make a Table, or BelowNought(row, number), which bars them."""
     _check_even(one)
-    tops, bottom = together([item for row in one.rows for item in row])
-    grid = [tops[k * one.width:(k + 1) * one.width] for k in range(one.height)]
+    # Rows and columns times what divides their bottoms have shorter numbers.
+    scales = [divisor([bottom for _, bottom in row]) for row in one.rows]
+    grid, bottom = _scaled_grid(one.rows, scales)
     scale = 1
     left = list(range(one.height))
-    weights = []
-    leads = []
+    weights, leads = [], []
     while True:
         fitting = [k for k in left if grid[k][k] > 0]
         if not fitting:
             break
         at = fitting[0]
         lead = grid[at]
-        weights.append(lowest(lead[at], scale * bottom))
-        leads.append((at, [share(item, lead[at]) for item in lead]))
+        weights.append(lowest(lead[at], scale * bottom * scales[at] * scales[at]))
+        leads.append((at, [share(item * scales[at], lead[at] * by) for item, by in zip(lead, scales)]))
         grid = pivoted(grid, at, at, scale)
         scale = lead[at]
         left = [k for k in left if k != at]
     bad = _below(grid, left)
     if bad is None:
         return Squares(weights, [tuple(row) for _, row in leads])
-    row = _freed(bad, leads)
+    row = _freed([item * by for item, by in zip(bad, scales)], leads)
     return BelowNought(row, form_of(one, row))
+
+
+def _scaled_grid(rows, scales):
+    """The rows with each item times the scales of its row and column, as integers over one bottom; this bottom."""
+    items = [times(item, one * two) for row, one in zip(rows, scales) for item, two in zip(row, scales)]
+    tops, bottom = together(items)
+    many = len(scales)
+    return [tops[k * many:(k + 1) * many] for k in range(many)], bottom
 
 
 def _below(grid, left):

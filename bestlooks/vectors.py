@@ -88,6 +88,12 @@ def ascends(row):
     return all([lower(one, other) for one, other in zip(row, row[1:])])
 
 
+def by_size(row):
+    """The pairs of a row in ascending order by their values."""
+    tops, _ = together(row)
+    return [item for _, item in sorted([(top, item) for top, item in zip(tops, row)])]
+
+
 def absolute(value):
     """A ratio without its sign."""
     top, bottom = pair(value)
@@ -127,12 +133,18 @@ def joined(row, other):
     return tuple([plus(one, two) for one, two in zip(row, other)])
 
 
+def divisor(wholes):
+    """The greatest common divisor of integers."""
+    found = 0
+    for item in wholes:
+        found = gcd(found, item)
+    return found
+
+
 def whole(row):
     """The integers without a common divisor that a row of ratios is, times a ratio; and this ratio, above 0."""
     tops, bottom = together(pairs(row))
-    by = 0
-    for top in tops:
-        by = gcd(by, top)
+    by = divisor(tops)
     if by == 0:
         return tops, (1, 1)
     return [top // by for top in tops], lowest(bottom, by)

@@ -41,6 +41,40 @@ FUNCTIONS = {
         "is_told_rightly": ("looks", "c", "told"),
         "rank_of": ("looks",),
     },
+    "bestlooks.signs": {
+        "nowhere_below": ("poly", "low", "high"),
+        "is_split": ("poly", "low", "high", "told"),
+        "least_of": ("poly", "low", "high", "bits"),
+        "capped": ("looks", "table", "bound"),
+        "is_capped": ("looks", "table", "bound", "told"),
+    },
+    "bestlooks.orders": {
+        "no_worse": ("one", "other"),
+        "is_order": ("one", "other", "told"),
+        "greatest_ratio": ("one", "other", "bits"),
+        "is_ratio_told": ("one", "other", "bits", "told"),
+        "few_places": ("looks", "design"),
+        "mixed_design": ("designs", "parts"),
+        "turned_rows": ("rows", "turning"),
+        "turned_number": ("number", "turning"),
+        "turned_table": ("table", "turning"),
+        "mirror": ("rows", "turning"),
+        "evened": ("design", "indices"),
+    },
+    "bestlooks.lists": {
+        "best_for": ("rows", "c"),
+        "is_best_for": ("rows", "c", "told"),
+        "slabs": ("rows",),
+        "needed": ("rows",),
+        "along": ("rows", "c", "d"),
+        "priced": ("rows", "costs"),
+        "lost": ("rows", "c"),
+        "is_lost": ("rows", "c", "told"),
+    },
+    "bestlooks.curves": {
+        "best_on": ("curve", "c", "bits"),
+        "is_best_on": ("curve", "c", "bits", "told"),
+    },
 }
 
 CLASSES = {
@@ -101,6 +135,26 @@ CLASSES = {
         "Design": {"__init__": ("self", "places", "shares"), "__eq__": ("self", "other")},
         "Sum": {"__init__": ("self", "places", "numbers")},
         "Hidden": {"__init__": ("self", "z")},
+    },
+    "bestlooks.signs": {
+        "Split": {"__init__": ("self", "root", "rest", "cuts")},
+        "Below": {"__init__": ("self", "place", "number")},
+        "Floor": {"__init__": ("self", "number", "split", "place")},
+        "Capped": {"__init__": ("self", "split")},
+        "Over": {"__init__": ("self", "place", "number")},
+    },
+    "bestlooks.orders": {
+        "NoWorse": {"__init__": ("self", "squares")},
+        "Worse": {"__init__": ("self", "number", "mine", "theirs")},
+        "NoRatio": {"__init__": ("self", "number")},
+        "RatioTold": {"__init__": ("self", "upper", "squares", "number")},
+    },
+    "bestlooks.lists": {
+        "Best": {"__init__": ("self", "size", "design", "z")},
+        "Lost": {"__init__": ("self", "many", "indices", "z")},
+    },
+    "bestlooks.curves": {
+        "Near": {"__init__": ("self", "design", "z", "splits")},
     },
 }
 
