@@ -10,6 +10,9 @@ from bestlooks.tables import form_of
 from bestlooks.vectors import ascends, gap_of, is_below, is_exact, kept, pair
 
 
+# Any prime will do that seldom divides anything.
+PRIME = 2305843009213693951
+
 # So many halvings are tried before squares are taken apart.
 FEW = 24
 
@@ -91,10 +94,40 @@ def _halves(corners):
     return left, right[::-1]
 
 
+def _is_surely_simple(poly):
+    """Whether a Poly has no factor in common with its slope, even in integers counted round by a prime.
+
+    A square that divides it would be such a factor there too, as long as its greatest power stays.
+    """
+    one = [top % PRIME for top in together(poly.numbers)[0]]
+    if one[-1] == 0:
+        return False
+    other = _counted([k * number for k, number in enumerate(one)][1:])
+    while other:
+        one, other = other, _rest_counted(one, other)
+    return len(one) == 1
+
+
+def _counted(row):
+    """The numbers of a polynomial counted round by the prime, up to the last one that is not 0."""
+    row = [number % PRIME for number in row]
+    while row and row[-1] == 0:
+        row.pop()
+    return row
+
+
+def _rest_counted(one, other):
+    """What a division of one by other leaves, times some number, counted round by the prime."""
+    while len(one) >= len(other):
+        shifted = [0] * (len(one) - len(other)) + other
+        one = _counted([number * other[-1] - one[-1] * taken for number, taken in zip(one, shifted)])
+    return one
+
+
 def _squares_apart(poly):
     """Polys root and rest such that poly is rest * root * root, and no square divides rest."""
     root = Poly((1,))
-    if poly.degree() < 2:
+    if poly.degree() < 2 or _is_surely_simple(poly):
         return root, poly
     twice = common(poly, poly.slope())
     once = divided(poly, twice)[0]
