@@ -1,8 +1,11 @@
-"""Grids of integers that stand for ratios over one scale, and their pivots.
+"""Grids of integers, and their pivots.
 
-All numbers of such a grid are determinants of parts of the first grid, so each division by the scale comes out even,
-and no number grows beyond such a determinant.
+The numbers of most grids stand for ratios over one scale: all of them are determinants of parts of the first grid, so
+each division by the scale comes out even, and no number grows beyond such a determinant. In others each row stands
+for itself, and is kept as short as it can be.
 """
+
+from bestlooks.vectors import divisor
 
 
 def pivoted(grid, at, column, scale):
@@ -11,12 +14,12 @@ def pivoted(grid, at, column, scale):
     The new scale is the item of that row in the column.
     """
     lead = grid[at]
-    by = lead[column]
-    return [row if k == at else _cleared(row, lead, by, row[column], scale) for k, row in enumerate(grid)]
+    return [row if k == at else cleared(row, lead, column, scale) for k, row in enumerate(grid)]
 
 
-def _cleared(row, lead, by, factor, scale):
-    """A row of the grid less the fitting multiple of the leading one."""
+def cleared(row, lead, column, scale):
+    """A row of a grid with a multiple of the leading one taken from it, so that its column is 0."""
+    by, factor = lead[column], row[column]
     return [(item * by - factor * other) // scale for item, other in zip(row, lead)]
 
 
@@ -37,6 +40,23 @@ def reduced(grid, many):
             pivots.append((at, column))
             free = [k for k in free if k != at]
     return grid, pivots, scale
+
+
+def simplified(row):
+    """A row of integers divided by their greatest common divisor."""
+    by = divisor(row)
+    return [item // by for item in row] if by > 1 else row
+
+
+def swept(grid, at, column):
+    """The grid, each row of which stands for itself, with 0 in the column of all rows but the one at."""
+    return [row if k == at or row[column] == 0 else _without(row, grid[at], column) for k, row in enumerate(grid)]
+
+
+def _without(row, lead, column):
+    """A multiple of a row less a multiple of the leading one, so that its column is 0."""
+    by, factor = simplified([lead[column], row[column]])
+    return simplified([item * by - factor * other for item, other in zip(row, lead)])
 
 
 def is_odd(order):

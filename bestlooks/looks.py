@@ -3,7 +3,7 @@
 from bestlooks.errors import BadInterval, BadNumber, BadRow, Unlike
 from bestlooks.polys import Poly
 from bestlooks.ratios import is_ratio, lower, minus, plus, times
-from bestlooks.tables import NoAnswer, Table, form_of, solved, spread_under
+from bestlooks.tables import NoAnswer, Table, form_of, led_to, solved, spread_under
 from bestlooks.vectors import are_rows, ascends, combined, dot, is_all_nought, is_exact, is_exact_row, is_nought
 from bestlooks.vectors import is_row, is_size, kept, pair, pairs, total
 
@@ -165,11 +165,11 @@ def best_weights(looks, design, c):
     """The best weights of a design for the number c; None if it does not tell c."""
     table = table_of(looks, design)
     check_number(looks, c)
-    found = solved(table, c)
-    if isinstance(found, NoAnswer):
+    found = led_to(table, c)
+    if found is None:
         return None
     rows = rows_of(looks, design)
-    return tuple([times(part, dot(row, found.row)) for part, row in zip(design.shares, rows)])
+    return tuple([times(part, dot(row, found)) for part, row in zip(design.shares, rows)])
 
 
 def spread_of(looks, design, c):

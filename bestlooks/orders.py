@@ -1,10 +1,10 @@
 """Designs compared: by their tables, by how many places they have, and as the numbers are told anew."""
 
 from bestlooks.errors import BadRow, Unlike
-from bestlooks.grids import pivoted
+from bestlooks.grids import simplified, swept
 from bestlooks.looks import Design, are_parts, check_places, rows_of
-from bestlooks.ratios import lower, minus, plus, share, times
-from bestlooks.tables import NoAnswer, Squares, is_squares, solved, spread_under, squares_of
+from bestlooks.ratios import floor_of, lower, minus, plus, share, times
+from bestlooks.tables import Squares, form_of, is_squares, led_to, spread_under, squares_of
 from bestlooks.vectors import by_size, combined, divisor, gap_of, is_below, is_exact, is_exact_row, is_nought, kept
 from bestlooks.vectors import negative, pair, pairs, whole
 
@@ -72,32 +72,39 @@ def is_order(one, other, told):
     return is_exact(told.mine) and pair(told.mine) == mine and lower(theirs, mine)
 
 
-def _above(one, other, gap, many):
-    """What squares_of tells of one times so many gaps, less other."""
-    return squares_of(one * times(many, gap) - other)
-
-
 def greatest_ratio(one, other, bits):
     """How many times the spreads under other those under one are at most: NoRatio or RatioTold."""
     _check_sizes(one, other)
     gap = gap_of(bits)
     for row in other.rows:
-        if isinstance(solved(one, row), NoAnswer):
+        if led_to(one, row) is None:
             return NoRatio(row)
-    least, most = -1, 0
-    bar, found = None, _above(one, other, gap, most)
-    while not isinstance(found, Squares):
-        bar, least, most = found, most, max(1, 2 * most)
-        found = _above(one, other, gap, most)
-    while most - least > 1:
-        middle = (least + most) // 2
-        tried = _above(one, other, gap, middle)
-        if isinstance(tried, Squares):
-            found, most = tried, middle
+    least, most = -1, None
+    bar, squares = None, None
+    tries = 0
+    while most is None or most - least > 1:
+        many = _next_try(least, most, tries)
+        found = squares_of(one * times(many, gap) - other)
+        if isinstance(found, Squares):
+            squares, most = found, many
         else:
-            bar, least = tried, middle
-    number = None if bar is None else combined(bar.row, other.rows)
-    return RatioTold(times(most, gap), found, number)
+            bar, least = found.row, _too_few(one, gap, many, found)
+        tries += 1
+    return RatioTold(times(most, gap), squares, None if bar is None else combined(bar, other.rows))
+
+
+def _next_try(least, most, tries):
+    """The multiple to try next, above one that is too few, and below one that is enough, if one is known."""
+    # What is too few comes close to all that is soon, so each second time just one more is tried.
+    if tries % 2 == 0:
+        return least + 1
+    return 2 * least + 2 if most is None else (least + most) // 2
+
+
+def _too_few(one, gap, many, found):
+    """The greatest multiple of the gap that the row of a BelowNought at so many shows to be too few."""
+    more = share(found.number, times(form_of(one, found.row), gap))
+    return many - 1 - floor_of(more)
 
 
 def is_ratio_told(one, other, bits, told):
@@ -150,23 +157,25 @@ def _products(row):
 def _thinned(grid, weights):
     """Other weights with which the columns of a grid have the same sum, only such as do not hang on one another."""
     left = list(weights)
-    scale = 1
+    grid = [simplified(row) for row in grid]
     leads = {}
     for column in range(len(left)):
-        fitting = [k for k, row in enumerate(grid) if k not in leads and row[0] != 0]
+        fitting = [k for k, row in enumerate(grid) if k not in leads and row[column] != 0]
         if fitting:
             at = fitting[0]
         else:
-            factors = {k: share(grid[k][0], scale) for k in leads}
+            factors = {k: share(grid[k][column], grid[k][lead]) for k, lead in leads.items()}
             at = _shift(left, leads, factors, column)
+            grid = _blanked(grid, column if at is None else leads[at])
         if at is not None:
             leads[at] = column
-            by = grid[at][0]
-            grid = pivoted(grid, at, 0, scale)
-            scale = by
-        # Columns are looked at once only.
-        grid = [row[1:] for row in grid]
+            grid = swept(grid, at, column)
     return left
+
+
+def _blanked(grid, column):
+    """The grid with 0 in a column that means nothing any more."""
+    return [row[:column] + [0] + row[column + 1:] for row in grid]
 
 
 def _shift(left, leads, factors, column):

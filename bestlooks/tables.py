@@ -1,7 +1,7 @@
 """Tables of ratios: sums and products, sums of multiples of rows, sums of squares."""
 
 from bestlooks.errors import BadNumber, BadRow, Unlike
-from bestlooks.grids import is_odd, pivoted, reduced
+from bestlooks.grids import cleared, is_odd, reduced
 from bestlooks.ratios import lowest, minus, plus, share, times, together
 from bestlooks.vectors import are_rows, combined, divisor, dot, is_above, is_all_nought, is_below, is_exact
 from bestlooks.vectors import is_exact_row, is_row, kept, pair, pairs, scaled, whole
@@ -144,12 +144,28 @@ def solved(one, right):
     return Answer(found)
 
 
+def led_to(table, row):
+    """A row v of pairs such that the sum of the Table's rows, each times its item of v, is a row; None without one.
+
+    The Table must be the same when it is turned.
+    """
+    grid, bottom, scales = _wholes(table)
+    asked, low = together([times(item, by) for item, by in zip(row, scales)])
+    grid, pivots, scale = reduced([line + [item] for line, item in zip(grid, asked)], table.width)
+    used = [at for at, _ in pivots]
+    if any([line[-1] != 0 for k, line in enumerate(grid) if k not in used]):
+        return None
+    sign = 1 if scale > 0 else -1
+    found = [(0, 1) for _ in range(table.width)]
+    for at, column in pivots:
+        found[column] = lowest(sign * grid[at][-1] * bottom * scales[column], sign * scale * low)
+    return found
+
+
 def spread_under(table, row):
     """The spread ([17]) of a row of ratios under a Table from nought; None if there is none."""
-    found = solved(table, row)
-    if isinstance(found, NoAnswer):
-        return None
-    return dot(found.row, row)
+    found = led_to(table, row)
+    return None if found is None else dot(found, row)
 
 
 def form_of(table, row):
@@ -160,48 +176,47 @@ def form_of(table, row):
 def squares_of(one):
     """Squares(weights, rows) that make a Table, or BelowNought(row, number), which bars them."""
     _check_even(one)
-    # Rows and columns times what divides their bottoms have shorter numbers.
-    scales = [divisor([bottom for _, bottom in row]) for row in one.rows]
-    grid, bottom = _scaled_grid(one.rows, scales)
+    grid, bottom, scales = _wholes(one)
     scale = 1
-    left = list(range(one.height))
+    left = dict(enumerate(grid))
     weights, leads = [], []
     while True:
-        fitting = [k for k in left if grid[k][k] > 0]
+        fitting = [k for k, row in left.items() if row[k] > 0]
         if not fitting:
             break
         at = fitting[0]
-        lead = grid[at]
+        lead = left.pop(at)
         weights.append(lowest(lead[at], scale * bottom * scales[at] * scales[at]))
         leads.append((at, [share(item * scales[at], lead[at] * by) for item, by in zip(lead, scales)]))
-        grid = pivoted(grid, at, at, scale)
+        left = {k: cleared(row, lead, at, scale) for k, row in left.items()}
         scale = lead[at]
-        left = [k for k in left if k != at]
-    bad = _below(grid, left)
+    bad = _below(left, one.height)
     if bad is None:
         return Squares(weights, [tuple(row) for _, row in leads])
     row = _freed([item * by for item, by in zip(bad, scales)], leads)
     return BelowNought(row, form_of(one, row))
 
 
-def _scaled_grid(rows, scales):
-    """The rows with each item times the scales of its row and column, as integers over one bottom; this bottom."""
-    items = [times(item, one * two) for row, one in zip(rows, scales) for item, two in zip(row, scales)]
+def _wholes(table):
+    """The Table with rows and columns times scales: integers that stand for it over one bottom; these; the scales."""
+    # Times what divides their bottoms, rows and columns have shorter numbers.
+    scales = [max(1, divisor([bottom for top, bottom in row if top != 0])) for row in table.rows]
+    items = [times(item, one * two) for row, one in zip(table.rows, scales) for item, two in zip(row, scales)]
     tops, bottom = together(items)
-    many = len(scales)
-    return [tops[k * many:(k + 1) * many] for k in range(many)], bottom
+    many = table.width
+    return [tops[k * many:(k + 1) * many] for k in range(table.height)], bottom, scales
 
 
-def _below(grid, left):
-    """A row that makes a number below 0 of what is left of a grid without items above 0 on its diagonal."""
-    for k in left:
-        if grid[k][k] < 0:
-            return [1 if i == k else 0 for i in range(len(grid))]
-    for k in left:
+def _below(left, many):
+    """A row that makes a number below 0 of what is left of a grid, without items above 0 on its diagonal."""
+    for k, row in left.items():
+        if row[k] < 0:
+            return [1 if i == k else 0 for i in range(many)]
+    for k, row in left.items():
         for other in left:
-            if grid[k][other] != 0:
-                sign = -1 if grid[k][other] > 0 else 1
-                return [1 if i == k else sign if i == other else 0 for i in range(len(grid))]
+            if row[other] != 0:
+                sign = -1 if row[other] > 0 else 1
+                return [1 if i == k else sign if i == other else 0 for i in range(many)]
     return None
 
 
