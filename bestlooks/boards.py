@@ -6,6 +6,13 @@ LENT = -1
 # So many steps in a row may gain nothing before the slow way is gone that is sure to end.
 STALLS = 40
 
+# So many bits stand for 1 on a rough board, and what has at most half as many is taken for 0.
+FINE = 768
+HALF = 384
+
+# Where the numbers of a board may come to so many bits, a rough board is asked ahead of it.
+LONG = 1000
+
 
 class Board:
     """A grid of equations.
@@ -19,6 +26,8 @@ class Board:
         self.down = down
         self.across = across
         self.scale = 1
+        # How many steps a climb may still take; None for any number.
+        self.left = None
 
     def exchange(self, at, column):
         """Solves the row at for the value of the column, and puts it into all other rows."""
@@ -44,7 +53,7 @@ class Board:
     def climb(self, goal):
         """Exchanges until the goal, a row's index, is greatest; the column of a way without end, or None."""
         stalls = 0
-        while True:
+        while self.left != 0:
             column = self._entering(goal, stalls > STALLS)
             if column is None:
                 return None
@@ -53,6 +62,9 @@ class Board:
                 return column
             stalls = stalls + 1 if self.grid[at][-1] == 0 else 0
             self.exchange(at, column)
+            if self.left is not None:
+                self.left -= 1
+        return None
 
     def _entering(self, goal, careful):
         """A column by which the goal rises; None if there is none."""
@@ -91,11 +103,12 @@ class Board:
         If not, the last row, a goal that is added for this, tells weights that bar it.
         """
         many = len(self.down)
-        worst = min(list(range(many)), key=lambda k: self.grid[k][-1])
-        if self.grid[worst][-1] >= 0:
-            return True
-        self._lend(many)
-        self.exchange(worst, len(self.across) - 1)
+        if LENT not in self.down:
+            worst = min(list(range(many)), key=lambda k: self.grid[k][-1])
+            if self.grid[worst][-1] >= 0:
+                return True
+            self._lend([self.scale] * many)
+            self.exchange(worst, len(self.across) - 1)
         self.climb(len(self.grid) - 1)
         if self.grid[-1][-1] < 0:
             return False
@@ -105,10 +118,11 @@ class Board:
         self.grid.pop()
         return True
 
-    def _lend(self, many):
-        """Adds a place with -1 in all rows, and the goal that it be as little as can be."""
-        grid = [row[:-1] + [-1 if k < many else 0, row[-1]] for k, row in enumerate(self.grid)]
-        self.grid = grid + [[0 for _ in self.across] + [1, 0]]
+    def _lend(self, loans):
+        """Adds a place by which all rows of down gain a loan, and the goal that it be as little as can be."""
+        loans = [-loan for loan in loans] + [0] * (len(self.grid) - len(self.down))
+        grid = [row[:-1] + [loan, row[-1]] for row, loan in zip(self.grid, loans)]
+        self.grid = grid + [[0] * len(self.across) + [self.scale, 0]]
         self.across = self.across + [LENT]
 
     def _give_back(self, at):
@@ -141,3 +155,64 @@ class Board:
             if 0 <= name < many:
                 values[name] = -self.grid[k][column]
         return [(item, self.scale) for item in values]
+
+    def go_to(self, names):
+        """Exchanges until down has just these names; whether this can be done, and all last items are from 0 on."""
+        many = len(self.down)
+        if LENT in names:
+            self._lend([_most(row) for row in self.grid[:many]])
+        for name in names:
+            if name not in self.down:
+                column = self.across.index(name)
+                fitting = [k for k in range(many) if self.down[k] not in names and self.grid[k][column] != 0]
+                if not fitting:
+                    return False
+                self.exchange(fitting[0], column)
+        return all([self.grid[k][-1] >= 0 for k in range(many)])
+
+
+def _most(row):
+    """The greatest size of an integer of a row, at least 1."""
+    return max(1, max([abs(item) for item in row]))
+
+
+class Rough(Board):
+    """A board whose numbers are rounded off, so that they stay short: what it tells is but a guess."""
+
+    def __init__(self, grid, down, across):
+        Board.__init__(self, [[(item << FINE) // _most(row) for item in row] for row in grid], down, across)
+        self.scale = 1 << FINE
+        # Rounded off, even the careful way may lead round in a ring.
+        self.left = 20 * (len(down) + len(across))
+
+    def exchange(self, at, column):
+        """Solves the row at for the value of the column, and puts it into all other rows."""
+        lead = self.grid[at]
+        by = lead[column]
+        grid = [_rounded(row, lead, (row[column] << FINE) // by, column) for row in self.grid]
+        turned = [(item << FINE) // by for item in lead]
+        turned[column] = (1 << 2 * FINE) // by
+        grid[at] = turned
+        self.grid = grid
+        self.down[at], self.across[column] = self.across[column], self.down[at]
+
+
+def _rounded(row, lead, factor, column):
+    """A row with the leading one put into it, without what may be but left over from rounding off."""
+    made = [item - (factor * other >> FINE) for item, other in zip(row, lead)]
+    made[column] = -factor
+    return [item if item.bit_length() > HALF else 0 for item in made]
+
+
+def board_of(grid, down, across):
+    """A board of these rows; where numbers are long, one that is near its end already, as a rough one tells."""
+    board = Board(grid, list(down), list(across))
+    bits = max([_most(row).bit_length() for row in grid])
+    if bits * min(len(down), len(across)) < LONG:
+        return board
+    rough = Rough(grid, list(down), list(across))
+    if rough.find_spots():
+        rough.climb(len(down))
+    if board.go_to(list(rough.down)):
+        return board
+    return Board(grid, list(down), list(across))

@@ -208,7 +208,7 @@ def lost(rows, c):
     if isinstance(found, Hidden):
         return Lost(0, (), found.z)
     best = None
-    for z in _hiding(rows.rows, pairs(c), rank_of(rows) - 1):
+    for z in _hiding(list(rows.rows), pairs(c), rank_of(rows) - 1):
         indices = _seen(rows.rows, z)
         if best is None or len(indices) < best.many:
             best = Lost(len(indices), indices, z)

@@ -1,6 +1,6 @@
 """Sums of inequalities: the greatest value of a sum, and what bars any greater one."""
 
-from bestlooks.boards import Board
+from bestlooks.boards import board_of
 from bestlooks.errors import BadRow
 from bestlooks.ratios import lower, share, times
 from bestlooks.vectors import are_rows, combined, dot, is_above, is_below, is_exact, is_exact_row, is_from_nought
@@ -49,7 +49,7 @@ def largest(rows, right, worth):
     goal, by = whole(worth)
     factors = [factor for _, factor in lines]
     grid = [line for line, _ in lines] + [[-item for item in goal] + [0]]
-    board = Board(grid, list(range(across, across + many)), list(range(across)))
+    board = board_of(grid, list(range(across, across + many)), list(range(across)))
     if not board.find_spots():
         weights = board.prices_of(many + 1, across, many)
         return Nothing([times(item, factor) for item, factor in zip(weights, factors)])

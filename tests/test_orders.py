@@ -253,6 +253,35 @@ class GreatestRatio(unittest.TestCase):
         other = made_of([[numbers.long() for _ in range(3)] for _ in range(3)])
         self.assertIs(type(self.holds(one, other, 30)), RatioTold)
 
+    def test_long_numbers_at_size(self):
+        numbers = Numbers(74)
+        curve = Curve((-1, 3), (10 ** 39 + 1, 10 ** 39), [Poly([numbers.long() for _ in range(7)]) for _ in range(5)])
+        tables = []
+        for bottom in (10 ** 39, 3 ** 80):
+            places = [(-bottom // 3 + bottom * k // 20 + numbers.between(1, 10 ** 9), bottom) for k in range(24)]
+            parts = [numbers.between(1, 10 ** 9) for _ in places]
+            design = Design(places, [(part, sum(parts)) for part in parts])
+            tables.append(table_of(curve, design))
+        for one, other in (tables, tables[::-1]):
+            found = greatest_ratio(one, other, 30)
+            self.assertIs(type(found), RatioTold)
+            self.assertTrue(are_right_squares(one * found.upper - other, found.squares))
+            mine, theirs = spread(one, found.number), spread(other, found.number)
+            self.assertTrue(mine > (fr(found.upper) - Fraction(1, 2 ** 30)) * theirs)
+            self.assertIs(is_ratio_told(one, other, 30, found), True)
+            told = no_worse(one, other)
+            self.assertTrue(is_right_order(one, other, told))
+            self.assertIs(is_order(one, other, told), True)
+
+    def test_far_apart(self):
+        # Ratios from very little to very much, and rows that are nearly told alike.
+        for far in (1, 12, 40):
+            wide = Table([[10 ** far, 1, 0], [1, 2, 1], [0, 1, 1]])
+            close = Table([[1, 1, 1], [1, 1, 1], [1, 1, 1]]) + unit(3) * (1, 10 ** far)
+            for one, other in ((wide, close), (close, wide), (wide, unit(3)), (unit(3), close)):
+                for bits in (0, 12, 30):
+                    self.assertIs(type(self.holds(one, other, bits)), RatioTold)
+
     def test_bits(self):
         for bits in BAD_BITS:
             expect(self, BadNumber, {"what": "bits", "number": bits}, greatest_ratio, unit(1), unit(1), bits)

@@ -68,6 +68,10 @@ class FewPlaces(unittest.TestCase):
         polys = [Poly([numbers.long() for _ in range(7)]) for _ in range(3)]
         places = sorted({Fraction(numbers.between(-10 ** 9, 10 ** 9), 10 ** 9) for _ in range(24)})
         self.holds(Curve(-1, 1, polys), some_design(numbers, pairs_of(places)), 3)
+        looks = Rows([[numbers.long() for _ in range(5)] for _ in range(40)])
+        self.holds(looks, some_design(numbers, list(range(0, 40, 2))[:20] + [39]), 5)
+        polys = [Poly([numbers.long() for _ in range(7)]) for _ in range(5)]
+        self.holds(Curve(-1, 1, polys), some_design(numbers, [(k - 12, 13) for k in range(24)]), 5)
 
     def test_places_that_are_none(self):
         design = Design((0, 3), ((1, 2), (1, 2)))
@@ -108,6 +112,20 @@ class MixedDesign(unittest.TestCase):
                     row[:] = [a + fr(part) * b for a, b in zip(row, line)]
             self.assertEqual(table_of_hand(looks, found), expected)
             self.assertEqual(list(frs(found.places)), sorted({place for d in designs for place in frs(d.places)}))
+
+    def test_sizes(self):
+        numbers = Numbers(88)
+        bottoms = [abs(numbers.long()[0]) for _ in range(3)]
+        designs = [some_design(numbers, [(k, bottom) for k in range(24)]) for bottom in bottoms]
+        parts = [(k, sum(bottoms)) for k in bottoms]
+        found = mixed_design(designs, parts)
+        self.assertEqual(len(found.places), 70)
+        expected = {}
+        for design, part in zip(designs, parts):
+            for place, item in zip(frs(design.places), frs(design.shares)):
+                expected[place] = expected.get(place, 0) + item * fr(part)
+        self.assertEqual(found.places, pairs_of(sorted(expected)))
+        self.assertEqual(found.shares, pairs_of(expected[place] for place in sorted(expected)))
 
     def test_parts_that_are_none(self):
         one = Design((0, 1), self.HALF)
@@ -222,6 +240,17 @@ class Evened(unittest.TestCase):
         self.assertEqual((found.places, found.shares), (((0, 1), (2, 1), (3, 1)), ((1, 8), (3, 4), (1, 8))))
         found = evened(Design((5,), (1,)), (5, 4, 3, 2, 1, 0))
         self.assertEqual((found.places, found.shares), (((0, 1), (5, 1)), ((1, 2), (1, 2))))
+
+    def test_sizes(self):
+        indices = tuple(range(39, -1, -1))
+        parts = [3 ** (k + 50) for k in range(24)]
+        design = Design(list(range(24)), [(part, sum(parts)) for part in parts])
+        found = evened(design, indices)
+        expected = [Fraction(0)] * 40
+        for k, part in enumerate(frs(design.shares)):
+            expected[k] += part / 2
+            expected[39 - k] += part / 2
+        self.assertEqual((found.places, found.shares), (tuple((k, 1) for k in range(40)), pairs_of(expected)))
 
     def test_determinants(self):
         numbers = Numbers(87)

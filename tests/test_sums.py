@@ -1,10 +1,12 @@
 """Promises [6] and [8]: sums of inequalities."""
 
 import unittest
+from math import lcm
 
 from bestlooks.errors import BadRow
 from bestlooks.sums import Endless, Nothing, Reached, is_largest, largest
 from tests.judging import Numbers, dotted, fr, frs, frss, hold_judge, is_judged, is_judged_row, is_pair, is_pair_row
+from tests.judging import pair_of, pairs_of
 from tests.values import NO_RATIOS, copied, expect
 
 
@@ -38,6 +40,13 @@ def is_right(rows, right, worth, told):
         return False
     weights = frs(told.weights)
     return all(dotted(column, weights) >= 0 for column in columns) and dotted(right, weights) < 0
+
+
+def over_one_bottom(row):
+    """The tops of a row of ratios over one bottom, and this bottom."""
+    pairs = [(item, 1) if isinstance(item, int) else item for item in row]
+    bottom = lcm(*[low for _, low in pairs])
+    return [top * (bottom // low) for top, low in pairs], bottom
 
 
 class Largest(unittest.TestCase):
@@ -140,6 +149,69 @@ class Largest(unittest.TestCase):
         numbers = Numbers(44)
         rows = [[numbers.between(-9, 9) for _ in range(24)] for _ in range(39)] + [[1] * 24]
         self.holds(rows, [0] * 39 + [1], [1] * 24, Reached)
+
+    def planted(self, numbers, height, wide, digits):
+        """Rows of long numbers with spots among them, and without an end."""
+        rows = [[numbers.long(digits) for _ in range(wide)] for _ in range(height - 1)] + [[1] * wide]
+        spots = [numbers.between(0, 9) for _ in range(wide)]
+        return rows, [pair_of(dotted(frs(row), spots) + 1) for row in rows]
+
+    def test_long_numbers_at_size(self):
+        numbers = Numbers(120)
+        rows, right = self.planted(numbers, 40, 24, 10)
+        worth = [numbers.long(10) for _ in range(24)]
+        self.holds(rows, right, worth, Reached)
+        # One row must then be more than the last one lets it be.
+        first = [(-top, bottom) for top, bottom in rows[0]]
+        self.holds(rows[1:] + [first], right[1:] + [(-10 ** 40, 1)], worth, Nothing)
+        # All rows fall along a run along which worth rises.
+        run = [abs(item) for item in frs(numbers.row(24))]
+        falling = [row if dotted(frs(row), run) <= 0 else [(-top, bottom) for top, bottom in row] for row in rows[:-1]]
+        falling.append([-1] * 24)
+        self.holds(falling, [-10 - k for k in range(40)], pairs_of(run), Endless)
+
+    def test_the_longest_numbers_at_size(self):
+        numbers = Numbers(130)
+        rows, right = self.planted(numbers, 40, 24, 40)
+        worth = [numbers.long() for _ in range(24)]
+        found = largest(rows, right, worth)
+        self.assertIs(type(found), Reached)
+        self.assertIs(is_largest(rows, right, worth, found), True)
+        spots, bottom = over_one_bottom(found.spots)
+        self.assertTrue(min(spots) >= 0)
+        for row, most in zip(rows, right):
+            items, low = over_one_bottom(row)
+            self.assertTrue(sum(a * b for a, b in zip(items, spots)) * most[1] <= most[0] * low * bottom)
+        weights, below = over_one_bottom(found.weights)
+        self.assertTrue(min(weights) >= 0)
+        for column, least in zip(zip(*rows), worth):
+            items, low = over_one_bottom([fr(item).as_integer_ratio() for item in column])
+            self.assertTrue(sum(a * b for a, b in zip(items, weights)) * least[1] >= least[0] * low * below)
+        items, low = over_one_bottom(worth)
+        rights, under = over_one_bottom(right)
+        value = sum(a * b for a, b in zip(items, spots)), low * bottom
+        barred = sum(a * b for a, b in zip(rights, weights)), under * below
+        self.assertEqual(value[0] * barred[1], barred[0] * value[1])
+        self.assertEqual(value[0] * found.number[1], found.number[0] * value[1])
+
+    def test_numbers_of_unlike_lengths(self):
+        numbers = Numbers(131)
+        kinds = {Reached: 0, Endless: 0, Nothing: 0}
+
+        def some():
+            if numbers.below(5) == 0:
+                return 0
+            return (numbers.one_of((1, -1)) * numbers.between(1, 9) * 10 ** numbers.below(300), 10 ** numbers.below(300))
+
+        for _ in range(150):
+            height, wide = numbers.between(2, 6), numbers.between(2, 6)
+            rows = [[some() for _ in range(wide)] for _ in range(height)]
+            right, worth = [some() for _ in range(height)], [some() for _ in range(wide)]
+            found = largest(rows, right, worth)
+            kinds[type(found)] += 1
+            self.assertTrue(is_right(rows, right, worth, found), (rows, right, worth))
+            self.assertIs(is_largest(rows, right, worth, found), True)
+        self.assertTrue(min(kinds.values()) > 10, kinds)
 
     def test_long_numbers(self):
         numbers = Numbers(7)

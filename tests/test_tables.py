@@ -201,6 +201,10 @@ class Methods(unittest.TestCase):
         self.assertEqual((table * table).det(), pair_of(fr((top, bottom)) ** 2))
         self.assertEqual(table.inverse().det(), pair_of(1 / fr((top, bottom))))
         self.assertEqual(Table(rows[:7] + [rows[0]]).det(), (0, 1))
+        pluses = tuple(pairs_of(fr(a) + fr(b) for a, b in zip(x, y)) for x, y in zip(rows, zip(*rows)))
+        self.assertEqual((table + table.turned()).rows, pluses)
+        self.assertEqual((table - table.turned() * -1).rows, pluses)
+        self.assertEqual((table * table).rows, product_by_hand(frss(rows), frss(rows)))
 
 
 def expect_zero(case, table):

@@ -275,6 +275,16 @@ class RankOf(unittest.TestCase):
             curve = Curve((-1, 3), 7, [Poly(column) for column in zip(*rows[:5])])
             self.assertEqual(rank_of(curve), rank_by_hand(rows_enough(curve)))
 
+    def test_sizes(self):
+        numbers = Numbers(35)
+        rows = [[numbers.long() for _ in range(3)] for _ in range(20)]
+        hanging = [row + [pair_of(fr(row[0]) - 7 * fr(row[2]))] for row in rows]
+        self.assertEqual(rank_of(Rows(hanging)), 3)
+        self.assertEqual(rank_of(Rows(hanging[:-1] + [[numbers.long() for _ in range(4)]])), 4)
+        polys = [Poly([numbers.long() for _ in range(5)]) for _ in range(3)]
+        curve = Curve((-1, 10 ** 39 + 3), (1, 10 ** 39), polys + [polys[0] - polys[2] * (1, 10 ** 40)])
+        self.assertEqual(rank_of(curve), 3)
+
 
 class Kept(unittest.TestCase):
     def test_keep_what_they_are_given(self):
