@@ -110,10 +110,8 @@ class Board:
             self._lend([self.scale] * many)
             self.exchange(worst, len(self.across) - 1)
         self.climb(len(self.grid) - 1)
-        if self.grid[-1][-1] < 0:
+        if self.grid[-1][-1] < 0 or not self._give_back():
             return False
-        if LENT in self.down:
-            self._give_back(self.down.index(LENT))
         self.without(self.across.index(LENT))
         self.grid.pop()
         return True
@@ -125,10 +123,16 @@ class Board:
         self.grid = grid + [[0] * len(self.across) + [self.scale, 0]]
         self.across = self.across + [LENT]
 
-    def _give_back(self, at):
-        """Exchanges the lent place, which is 0, for any other one."""
-        row = self.grid[at]
-        self.exchange(at, [k for k in range(len(self.across)) if row[k] != 0][0])
+    def _give_back(self):
+        """Exchanges the lent place, which is 0, for any other one; whether it stands among those across then."""
+        if LENT in self.across:
+            return True
+        at = self.down.index(LENT)
+        fitting = [k for k, item in enumerate(self.grid[at][:-1]) if item != 0]
+        # Only where numbers are rounded off may there be none.
+        if fitting:
+            self.exchange(at, fitting[0])
+        return len(fitting) > 0
 
     def values_of(self, many):
         """The values of the names from 0 on, before many, as pairs of an integer and the scale."""
