@@ -200,10 +200,11 @@ class Forms(unittest.TestCase):
         self.assertEqual(form_on(Curve(0, 1, (Poly((0, 1)),)), Table([[3]])), Poly((0, 0, 3)))
 
     def test_errors(self):
-        for rows in ([[1]], [[1, 2, 3]], [[1, 2], [2, 1], [1, 1]], [[1, 2, 3], [2, 1, 1], [3, 1, 1]], [[1, 2]]):
+        for rows in ([[1]], [[1, 2, 3]], [[1, 2], [2, 1], [1, 1]], [[1, 2, 3], [2, 1, 1], [3, 1, 1]], [[1, 2]],
+                     [[1, 2, 3], [2, 1, 1]], [[1], [2]]):
             call = (lambda table: form_at(LIST, table, None))
             self.assertEqual(fields_of(self, Unlike, call, Table(rows)), {"what": "sizes"})
-        for rows in ([[1]], [[1, 2], [2, 1]], [[1, 2, 3]]):
+        for rows in ([[1]], [[1, 2], [2, 1]], [[1, 2, 3]], [[1, 2]] * 3):
             self.assertEqual(fields_of(self, Unlike, form_on, CURVE, Table(rows)), {"what": "sizes"})
             call = (lambda table: form_at(CURVE, table, 0))
             self.assertEqual(fields_of(self, Unlike, call, Table(rows)), {"what": "sizes"})

@@ -318,6 +318,21 @@ class IsRatioTold(unittest.TestCase):
         low = BelowNought((1,), -1)
         self.assertIs(is_ratio_told(one, one * 2, 2, RatioTold(1, low, row)), False)
 
+    def test_rows_without_a_spread(self):
+        flat = Table([[1, 0], [0, 0]])
+        squares = Squares((1,), ((0, 1),))
+        none = Squares((), ())
+        for one, other, told, right in (
+                (flat, flat * 2, NoRatio((0, 1)), False), (flat, unit(2), NoRatio((0, 1)), True),
+                (unit(2), flat, NoRatio((0, 1)), False), (flat, unit(2), NoRatio((1, 0)), False),
+                (unit(2), flat, RatioTold(1, squares, (1, 0)), True), (unit(2), flat, RatioTold(1, squares, (0, 1)), False),
+                (unit(2), flat, RatioTold(1, squares, (1, 1)), False), (flat, flat, RatioTold(1, none, (3, 0)), True),
+                (flat, flat, RatioTold(1, none, (0, 3)), False), (flat * 0, flat * 0, RatioTold(0, none, None), True),
+                (flat * 0, flat * 0, RatioTold(-1, none, (0, 0)), False),
+                (flat * 0, flat * 0, RatioTold(1, none, (0, 0)), False)):
+            self.assertIs(is_right_ratio(one, other, 3, told), right, vars(told))
+            self.assertIs(is_ratio_told(one, other, 3, told), right, vars(told))
+
 
 class Kept(unittest.TestCase):
     def test_keep_what_they_are_given(self):

@@ -151,6 +151,19 @@ class NowhereBelow(unittest.TestCase):
         self.below(-((X - (1, 2)) * (X - (1, 2)) * (X - (1, 4)) * (X - (1, 4)) * (X - (3, 4)) * (X - (3, 4)) * X * X), 0, 1)
         self.below((X - (1, 2)) * (X - (1, 2)) * (X - (1, 3)) * (X - (2, 3)), 0, 1)
         self.below(X * X * (X - 1) * (X - 1) * -1, 0, 1)
+        # Where it is 0 at a middle and below 0 beside, but touches 0 elsewhere at no ratio.
+        once = X * X - 2
+        self.below(once * once * X * X * (X * X - (1, 100)), -2, 2)
+        self.below(once * once * X * X * (X - 1) * (X - 1) * (X * X - (1, 10 ** 12)), -2, 2)
+        self.splits(once * once * X * X * (X * X + (1, 10 ** 12)), -2, 2)
+
+    def test_numbers_that_a_prime_divides(self):
+        # Counted round by a prime, one power after the other may be lost.
+        prime = 2 ** 61 - 1
+        for once in (X * X * prime - 3, X * X - (2, prime), (X * X - 2) * prime, X * X * prime - X - 3 * prime):
+            for beside in (Poly((1,)), X + prime, X * prime + prime ** 3, X * X + (1, prime)):
+                self.splits(once * once * beside, -2, 2)
+                self.splits(once * once * once * once * beside, -2, 2)
 
     def test_many(self):
         numbers = Numbers(41)
