@@ -184,7 +184,7 @@ class Rough(Board):
     """A board whose numbers are rounded off, so that they stay short: what it tells is but a guess."""
 
     def __init__(self, grid, down, across):
-        Board.__init__(self, [[(item << FINE) // _most(row) for item in row] for row in grid], down, across)
+        super().__init__([[(item << FINE) // _most(row) for item in row] for row in grid], down, across)
         self.scale = 1 << FINE
         # Rounded off, even the careful way may lead round in a ring.
         self.left = 20 * (len(down) + len(across))

@@ -6,6 +6,7 @@ from bestlooks.looks import width
 from bestlooks.polys import Poly
 from bestlooks.ratios import lower, minus, plus, share, times
 from bestlooks.signs import Split, is_split, nowhere_below
+from bestlooks.turns import summits
 from bestlooks.vectors import absolute, dot, gap_of, is_exact_row, kept, scaled, whole
 
 
@@ -87,43 +88,7 @@ def _peaks(grid, z):
     line = Poly(())
     for poly, number in zip(grid.polys, z):
         line = line + poly * number
-    inner = [place + 1 for place in _changes(_rise(line), grid.steps - 1)]
-    return [place for place in [0] + inner + [grid.steps] if lower(1, absolute(line.at(place)))]
-
-
-def _rise(poly):
-    """The Poly of how much poly rises from each place to the next one."""
-    return poly.moved(1, 1) - poly
-
-
-def _changes(poly, last):
-    """All integers from 0 on, ahead of last, at which poly is above 0, but not at the next one, or the other way."""
-    if poly.degree() < 1:
-        return []
-    # From one of these stops to the next one poly rises at all steps, or at none.
-    stops = [0] + [place + 1 for place in _changes(_rise(poly), last - 1)] + [last]
-    found = []
-    for low, high in zip(stops, stops[1:]):
-        if _is_up(poly, low) != _is_up(poly, high):
-            found.append(_change(poly, low, high))
-    return found
-
-
-def _change(poly, low, high):
-    """The integer from low on, ahead of high, behind which poly is no longer above 0, or first is."""
-    sign = _is_up(poly, low)
-    while high - low > 1:
-        middle = (low + high) // 2
-        if _is_up(poly, middle) == sign:
-            low = middle
-        else:
-            high = middle
-    return low
-
-
-def _is_up(poly, place):
-    """Whether poly is above 0 at a place."""
-    return poly.at(place)[0] > 0
+    return [place for place in summits(line, grid.steps) if lower(1, absolute(line.at(place)))]
 
 
 def is_best_on(curve, c, bits, told):

@@ -215,6 +215,16 @@ def is_hidden(looks, c, z):
     return is_exact_row(z, width(looks)) and is_unseen(looks, z) and dot(z, c) == (1, 1)
 
 
+def unseen_row(looks):
+    """A row, not all 0, that no place of the looks sees; None without one."""
+    many = width(looks)
+    for k in range(many):
+        found = can_tell(looks, [1 if i == k else 0 for i in range(many)])
+        if isinstance(found, Hidden):
+            return found.z
+    return None
+
+
 def is_unseen(looks, z):
     """Whether z . r is 0 for the rows r of all places."""
     if isinstance(looks, Rows):

@@ -94,6 +94,11 @@ def by_size(row):
     return [item for _, item in sorted([(top, item) for top, item in zip(tops, row)])]
 
 
+def greatest(row):
+    """The greatest pair of a row."""
+    return by_size(row)[-1]
+
+
 def absolute(value):
     """A ratio without its sign."""
     top, bottom = pair(value)

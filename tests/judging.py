@@ -1,5 +1,6 @@
 """What several tests need to hold answers and judges against sums of their own."""
 
+import inspect
 from fractions import Fraction
 
 from bestlooks.errors import LookError
@@ -152,9 +153,14 @@ def form_by_hand(table, row):
     return dotted(row, [dotted(line, row) for line in table])
 
 
+def given(value):
+    """What an object was created with, as its attributes tell it."""
+    return [getattr(value, name) for name in inspect.signature(type(value)).parameters]
+
+
 def remade(value, change):
     """An object of the same class, its attributes changed."""
-    return type(value)(*[change(item) for item in vars(value).values()])
+    return type(value)(*[change(item) for item in given(value)])
 
 
 def is_object(value):
@@ -193,7 +199,7 @@ def variants(value):
 
 
 def _objects(value):
-    fields = list(vars(value).values())
+    fields = given(value)
     for k, field in enumerate(fields):
         for other in variants(field):
             try:

@@ -75,6 +75,27 @@ FUNCTIONS = {
         "best_on": ("curve", "c", "bits"),
         "is_best_on": ("curve", "c", "bits", "told"),
     },
+    "bestlooks.wholes": {
+        "best_whole": ("looks", "bits", "taken=None", "amount=1"),
+        "is_best_whole": ("looks", "bits", "told", "taken=None", "amount=1"),
+        "peak": ("looks", "design", "bits"),
+        "never_used": ("rows", "told"),
+        "sure_places": ("rows", "indices", "bits"),
+        "is_sure": ("rows", "indices", "bits", "told"),
+    },
+    "bestlooks.spreads": {
+        "least_sum": ("looks", "numbers", "weights", "bits"),
+        "is_least_sum": ("looks", "numbers", "weights", "bits", "told"),
+        "worst_direction": ("looks", "bits"),
+        "is_worst_direction": ("looks", "bits", "told"),
+    },
+    "bestlooks.ovals": {
+        "size_of": ("oval",),
+        "holds": ("oval", "point"),
+        "moved_oval": ("oval", "matrix", "shift"),
+        "least_oval": ("points", "bits", "middle=None"),
+        "is_least_oval": ("points", "bits", "told", "middle=None"),
+    },
 }
 
 CLASSES = {
@@ -156,11 +177,28 @@ CLASSES = {
     "bestlooks.curves": {
         "Near": {"__init__": ("self", "design", "z", "splits")},
     },
+    "bestlooks.wholes": {
+        "Whole": {"__init__": ("self", "design", "over", "paper")},
+        "Flat": {"__init__": ("self", "z")},
+        "Peak": {"__init__": ("self", "number", "place")},
+        "Sure": {"__init__": ("self", "design", "rest")},
+        "Spare": {"__init__": ("self", "whole")},
+    },
+    "bestlooks.spreads": {
+        "Untold": {"__init__": ("self", "index", "hidden")},
+        "LeastSum": {"__init__": ("self", "design", "total", "rows", "bound", "paper")},
+        "Worst": {"__init__": ("self", "design", "least", "table", "bound", "paper")},
+    },
+    "bestlooks.ovals": {
+        "Oval": {"__init__": ("self", "middle", "form"), "__eq__": ("self", "other")},
+        "Least": {"__init__": ("self", "oval", "shares")},
+    },
 }
 
 
 def parameters(function):
-    return tuple(inspect.signature(function).parameters)
+    """The names of the parameters, each with its default value, if it has one."""
+    return tuple(str(parameter) for parameter in inspect.signature(function).parameters.values())
 
 
 class Interface(unittest.TestCase):
