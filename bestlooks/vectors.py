@@ -94,9 +94,27 @@ def by_size(row):
     return [item for _, item in sorted([(top, item) for top, item in zip(tops, row)])]
 
 
+def is_less(one, other):
+    """Whether a pair is below another one, both in any terms."""
+    return one[0] * other[1] < other[0] * one[1]
+
+
 def greatest(row):
     """The greatest pair of a row."""
-    return by_size(row)[-1]
+    best = row[0]
+    for item in row:
+        if is_less(best, item):
+            best = item
+    return best
+
+
+def power(value, many):
+    """A ratio to the power of an integer from 0 on."""
+    top, bottom = pair(value)
+    high, low = 1, 1
+    for _ in range(many):
+        high, low = high * top, low * bottom
+    return (high, low)
 
 
 def absolute(value):

@@ -208,14 +208,14 @@ def _objects(value):
                 pass
 
 
-def hold_judge(case, judge, arguments, told, reference, others=()):
+def hold_judge(case, judge, arguments, told, reference, others=(), renewed=in_other_terms):
     """The judge says the same as the reference of each value that differs from told in one thing, and of others.
 
-    It must find the told value right, also in other terms, and everything else wrong.
+    It must find the told value right, also in other terms, as renewed makes them, and everything else wrong.
     """
     case.assertIs(reference(told), True, vars(told) if is_object(told) else told)
     case.assertIs(judge(*arguments, told), True)
-    case.assertIs(judge(*arguments, in_other_terms(told)), True)
+    case.assertIs(judge(*arguments, renewed(told)), True)
     for value in variants(told):
         expected = reference(value)
         found = judge(*arguments, value)

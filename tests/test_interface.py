@@ -96,6 +96,25 @@ FUNCTIONS = {
         "least_oval": ("points", "bits", "middle=None"),
         "is_least_oval": ("points", "bits", "told", "middle=None"),
     },
+    "bestlooks.counts": {
+        "most_det": ("looks", "many"),
+        "is_most_det": ("looks", "many", "told"),
+        "least_spread": ("looks", "row", "many"),
+        "is_least_spread": ("looks", "row", "many", "told"),
+        "next_look": ("looks", "counts"),
+        "least_many": ("looks", "row", "spread", "most"),
+        "weighings": ("many",),
+        "pans": ("many",),
+    },
+    "bestlooks.rivals": {
+        "parting": ("rows", "values", "design"),
+        "best_parting": ("rows", "values"),
+        "is_best_parting": ("rows", "values", "told"),
+    },
+    "bestlooks.texts": {
+        "poly_of": ("text",),
+        "poly_text": ("poly",),
+    },
 }
 
 CLASSES = {
@@ -192,6 +211,37 @@ CLASSES = {
     "bestlooks.ovals": {
         "Oval": {"__init__": ("self", "middle", "form"), "__eq__": ("self", "other")},
         "Least": {"__init__": ("self", "oval", "shares")},
+    },
+    "bestlooks.counts": {
+        "MostDet": {"__init__": ("self", "det", "counts", "tree")},
+        "LeastSpread": {"__init__": ("self", "spread", "counts", "tree")},
+        "Enough": {"__init__": ("self", "many", "counts", "tree")},
+        "TooFew": {"__init__": ("self", "tree")},
+    },
+    "bestlooks.rivals": {
+        "Parted": {"__init__": ("self", "miss", "design", "t")},
+    },
+    "bestlooks.desk": {
+        "Desk": {
+            "__init__": ("self", "text=''"),
+            "put": ("self", "text"),
+            "drop": ("self", "name"),
+            "rename": ("self", "name", "new"),
+            "keep": ("self", "promise"),
+            "release": ("self", "promise"),
+            "attempt": ("self", "action"),
+            "trial": ("self", "action"),
+            "undo": ("self",),
+            "redo": ("self",),
+            "lines": ("self",),
+            "names": ("self",),
+            "promises": ("self",),
+            "get": ("self", "name"),
+            "kept": ("self", "promise"),
+            "broken": ("self",),
+            "__enter__": ("self",),
+            "__exit__": ("self", "kind", "value", "trace"),
+        },
     },
 }
 
