@@ -66,7 +66,8 @@ def fine_answers(grid):
 
     The unknown ones' columns are a table that is the same when it is turned, and above nought.
     """
-    for at in range(len(grid)):
+    many = len(grid)
+    for at in range(many):
         by = grid[at][0]
         lead = [(item << FINE) // by for item in grid[at][1:]]
         grid = [lead if k == at else _cleared(row, lead) for k, row in enumerate(grid)]

@@ -107,6 +107,9 @@ class Lines(unittest.TestCase):
                              ("list ab!", 6), ("list ab = (", 6), ("list ab = (1)(2,3)", 6), ("curve ab from 2 to 1 = x", 7),
                              ("list abc = (", 13), ("list a", 7), ("list abcdefghi", 14), ("lost ab = (1)", 2), ("list c = (1) ab", 14)):
             self.wrong(head + line, 3, column)
+        # A run of more than eight has no end that could be a name told already.
+        self.wrong("list abcdefgh = (1)\nlist abcdefghi = (1)", 2, 14)
+        self.wrong("list abcdefgh = (1)\nlist abcdefgh", 2, 6)
         # Each text by itself: an item of the desk is no hindrance.
         desk = Desk(head)
         desk.put("list ab = (7)")

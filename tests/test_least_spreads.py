@@ -255,6 +255,13 @@ class LeastMany(unittest.TestCase):
         self.holds(looks, (1, 0), (1, 12), 12, 12)
         self.holds(looks, (1, 0), pair_of(Fraction(1, 12) - little), 12, 0)
 
+    def test_strictly(self):
+        # Shares of thirds would just reach the spread 9 / 10 with ten looks, but whole looks do not.
+        looks = Rows([[1, 0, 0], [0, 1, 0], [0, 0, 1]])
+        self.holds(looks, (1, 1, 1), (9, 10), 12, 11)
+        self.holds(looks, (1, 1, 1), (9, 10), 10, 0)
+        self.holds(looks, (1, 1, 1), 1, 12, 9)
+
     def test_none_for_a_tree(self):
         looks = Rows([[1, 0], [0, 1], [1, 0]])
         self.assertIs(self.holds(looks, (1, 0), 5, 3, 1).tree, None)

@@ -356,6 +356,15 @@ class IsSure(unittest.TestCase):
         self.judged(self.LOOKS, (0,), 6, Sure(Design((0, 4), ((1, 2), (1, 2))), best_whole(Rows(THIRDS), 6)), False)
         self.assertTrue(is_best_whole(self.LOOKS, 6, whole))
 
+    def test_both_are_right(self):
+        # A row that is longer by a thousandth: spared within a gap of 1/16, and still each best design has it.
+        looks, half = Rows([[1, 0], [0, 1], [(1001, 1000), 0]]), ((1, 2), (1, 2))
+        without = Design((0, 1), half)
+        self.judged(looks, (2,), 4, Spare(Whole(without, (17, 16), Capped(None))), True)
+        self.judged(looks, (2,), 4, Sure(Design((1, 2), half), Whole(without, 1, Capped(None))), True)
+        self.judged(looks, (2,), 4, Sure(Design((1, 2), half), Whole(without, (17, 16), Capped(None))), False)
+        self.judged(looks, (2,), 12, Spare(Whole(without, (4097, 4096), Capped(None))), False)
+
     def test_flat_rests(self):
         looks = Rows([[1, 0], [0, 1], [0, 2]])
         self.judged(looks, (0,), 3, Sure(Design((0, 1), ((1, 9), (8, 9))), Flat((1, 0))), True)
