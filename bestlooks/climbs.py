@@ -15,7 +15,17 @@ from bestlooks.fine import fine_sum, fine_table, together_in
 HALVINGS = 3
 
 
-class WholeAim:
+class Aim:
+    """What is wanted of shares. Each aim measures them, and tells the equations of the next step."""
+
+    def start(self):
+        """Begins a climb: mostly nothing is left of an earlier one."""
+
+    def go_on(self, part):
+        """Goes a part of a step: mostly there is nothing to change but the shares."""
+
+
+class WholeAim(Aim):
     """The greatest determinant of what was taken and the table of the shares, together."""
 
     def __init__(self, taken):
@@ -23,9 +33,6 @@ class WholeAim:
         self.form = []
         self.heights = []
         self.pulls = []
-
-    def start(self):
-        """Nothing is left of an earlier climb."""
 
     def measure(self, rows, shares):
         """Takes the form and the heights from the shares of rows."""
@@ -42,11 +49,8 @@ class WholeAim:
         bends = [[item * item for item in row] for row in self.pulls]
         return _equations(bends, self.heights, shares, halvings)
 
-    def go_on(self, part):
-        """There is nothing to change but the shares."""
 
-
-class SumAim:
+class SumAim(Aim):
     """The least sum of all numbers of the asked table times those of the inverse of what was taken and the shares'."""
 
     def __init__(self, taken, asked):
@@ -57,9 +61,6 @@ class SumAim:
         self.heights = []
         self.pulls = []
         self.pushes = []
-
-    def start(self):
-        """Nothing is left of an earlier climb."""
 
     def measure(self, rows, shares):
         """Takes the sum, the form and the heights from the shares of rows."""
@@ -79,11 +80,8 @@ class SumAim:
         bends = [[2 * one * two for one, two in zip(row, line)] for row, line in zip(self.pulls, self.pushes)]
         return _equations(bends, self.heights, shares, halvings)
 
-    def go_on(self, part):
-        """There is nothing to change but the shares."""
 
-
-class WorstAim:
+class WorstAim(Aim):
     """The greatest number such that the shares' table less it times the unit table is from nought; for rows within 1.
 
     The number itself climbs along with the shares.

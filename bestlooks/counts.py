@@ -7,11 +7,11 @@ from bestlooks.errors import BadNumber, BadRow, Unlike
 from bestlooks.fields import Frame
 from bestlooks.looks import Hidden, Rows, Sum, can_tell, check_number, rank_of, width
 from bestlooks.ratios import is_whole, lower, plus, share, times
-from bestlooks.tables import Table, form_of, led_to, solved, squares_of
-from bestlooks.trees import Counted, all_counts, fine_asked, is_few, is_tree, near_table, product_of, rest_table
+from bestlooks.tables import Table, form_of, gathered, led_to, solved, squares_of
+from bestlooks.trees import Counted, all_counts, fine_asked, is_few, is_tree, near_table, rest_table
 from bestlooks.trees import tree_of
-from bestlooks.vectors import combined, dot, greatest, is_above, is_all_nought, is_exact, is_exact_row, is_less
-from bestlooks.vectors import is_nought, is_size, kept, pair, power, scaled
+from bestlooks.vectors import dot, greatest, is_above, is_all_nought, is_exact, is_exact_row, is_less
+from bestlooks.vectors import is_nought, is_size, kept, pair, power
 
 
 class MostDet:
@@ -54,7 +54,7 @@ class DetPaper:
     def __init__(self, looks, det):
         self.rows = looks.rows
         self.most = det
-        self.each = rest_table(looks.rows, len(looks.rows), product_of(looks.rows[0]) * 0)
+        self.each = rest_table(looks.rows, len(looks.rows), gathered(looks.rows[:1], [0]))
 
     def leaf(self, at, left, table):
         """Weights and rows that bar all counts that go on so; None if there may be none."""
@@ -104,8 +104,7 @@ class DetPaper:
             return False
         if not all([is_above(weight) for weight in weights]) or is_nought(Table(rows).det()):
             return False
-        back = Table([combined(line, rows) for line in zip(*[scaled(row, by) for row, by in zip(rows, weights)])])
-        return self._bars(self.rows[at:], left, table, back)
+        return self._bars(self.rows[at:], left, table, gathered(rows, weights))
 
 
 class SpreadPaper:

@@ -9,7 +9,7 @@ from bestlooks.fine import FINE, ONE, fine_dot, rooted
 from bestlooks.looks import Design, Rows, places_enough, row_at
 from bestlooks.polys import Poly
 from bestlooks.ratios import minus, plus, share, times
-from bestlooks.tables import Table, squares_of
+from bestlooks.tables import Table, gathered, squares_of
 from bestlooks.turns import summits
 from bestlooks.vectors import combined
 
@@ -120,8 +120,7 @@ def field_of(looks, frame, amount, bits):
 def even_table(looks):
     """The Table of as many looks at each of enough places."""
     rows = [row_at(looks, place) for place in places_enough(looks)]
-    columns = [[times(item, (1, len(rows))) for item in column] for column in zip(*rows)]
-    return Table([combined(column, rows) for column in columns])
+    return gathered(rows, [(1, len(rows)) for _ in rows])
 
 
 def _near(field, aim, bits):

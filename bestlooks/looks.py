@@ -3,7 +3,7 @@
 from bestlooks.errors import BadInterval, BadNumber, BadRow, Unlike
 from bestlooks.polys import Poly
 from bestlooks.ratios import is_ratio, lower, minus, plus, times
-from bestlooks.tables import NoAnswer, Table, form_of, led_to, solved, spread_under
+from bestlooks.tables import NoAnswer, Table, form_of, gathered, led_to, solved, spread_under
 from bestlooks.vectors import are_rows, ascends, combined, dot, is_all_nought, is_exact, is_exact_row, is_nought
 from bestlooks.vectors import is_row, is_size, kept, pair, pairs, total
 
@@ -132,10 +132,7 @@ def rows_of(looks, design):
 def table_of(looks, design):
     """The Table of a design: the sum of each share times the products of its place's row."""
     check_places(looks, design)
-    rows = rows_of(looks, design)
-    columns = list(zip(*rows))
-    weighted = [[times(item, part) for item, part in zip(column, design.shares)] for column in columns]
-    return Table([combined(line, rows) for line in weighted])
+    return gathered(rows_of(looks, design), design.shares)
 
 
 def form_at(looks, table, place):

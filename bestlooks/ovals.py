@@ -3,9 +3,9 @@
 from bestlooks.errors import BadRow
 from bestlooks.looks import Rows, are_parts, rank_of, width
 from bestlooks.ratios import is_whole, lower, minus, share, times
-from bestlooks.tables import Table, form_of
+from bestlooks.tables import Table, form_of, gathered
 from bestlooks.vectors import are_rows, ascends, combined, gap_of, greatest, is_above, is_exact, is_row, joined, kept
-from bestlooks.vectors import negative, pairs, scaled
+from bestlooks.vectors import negative, pairs
 from bestlooks.wholes import whole_of
 
 
@@ -101,8 +101,7 @@ def _mean(points, shares, middle):
 def _scatter(points, shares, about):
     """The table of the points' scatter about a point."""
     rows = _less([points[index] for index, _ in shares], about)
-    columns = list(zip(*[scaled(row, part) for row, (_, part) in zip(rows, shares)]))
-    return Table([combined(column, rows) for column in columns])
+    return gathered(rows, [part for _, part in shares])
 
 
 def least_oval(points, bits, middle=None):

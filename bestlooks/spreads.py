@@ -9,8 +9,8 @@ from bestlooks.looks import Curve, Design, Hidden, Rows, can_tell, has_places, i
 from bestlooks.looks import table_of, unseen_row, width
 from bestlooks.ratios import is_whole, lower, plus, share, times
 from bestlooks.signs import Capped, capped, is_capped
-from bestlooks.tables import Squares, Table, led_to, spread_under, squares_of
-from bestlooks.vectors import are_rows, combined, dot, gap_of, is_above, is_all_nought, is_below, is_exact
+from bestlooks.tables import Squares, Table, gathered, led_to, spread_under, squares_of
+from bestlooks.vectors import are_rows, dot, gap_of, is_above, is_all_nought, is_below, is_exact
 from bestlooks.vectors import is_exact_row, is_row, is_size, kept, pair, pairs, scaled, whole
 
 
@@ -118,14 +118,8 @@ def _sum_of(looks, design, numbers, weights, bits):
     spreads = [dot(row, number) for row, number in zip(rows, numbers)]
     sum_told = dot(weights, spreads)
     bound = times(plus(1, gap_of(bits)), sum_told)
-    paper = capped(looks, _together(rows, weights), bound)
+    paper = capped(looks, gathered(rows, weights), bound)
     return LeastSum(design, sum_told, rows, bound, paper) if isinstance(paper, Capped) else None
-
-
-def _together(rows, weights):
-    """The Table of the sum of the products of each two items of a row, times its weight."""
-    columns = list(zip(*[scaled(row, weight) for row, weight in zip(rows, weights)]))
-    return Table([combined(column, rows) for column in columns])
 
 
 def is_least_sum(looks, numbers, weights, bits, told):
@@ -143,7 +137,7 @@ def is_least_sum(looks, numbers, weights, bits, told):
         return False
     if not all([is_exact_row(row, width(looks)) for row in told.rows]) or not is_above(told.bound):
         return False
-    if not is_capped(looks, _together(told.rows, weights), told.bound, told.paper):
+    if not is_capped(looks, gathered(told.rows, weights), told.bound, told.paper):
         return False
     reached = dot(weights, [dot(row, number) for row, number in zip(told.rows, numbers)])
     most = times(plus(1, gap_of(bits)), times(reached, reached))

@@ -168,6 +168,12 @@ def spread_under(table, row):
     return None if found is None else dot(found, row)
 
 
+def gathered(rows, weights):
+    """The Table of the sum of the products of each two items of a row, times its weight, over all rows."""
+    lines = [scaled(row, weight) for row, weight in zip(rows, weights)]
+    return Table([combined(column, rows) for column in zip(*lines)])
+
+
 def form_of(table, row):
     """The sum of all products of two items of a row and the Table's item at their places."""
     return dot(combined(row, table.rows), row)

@@ -11,8 +11,8 @@ from bestlooks.fine import FINE, ONE
 from bestlooks.grids import reduced
 from bestlooks.looks import Rows
 from bestlooks.ratios import is_whole, lowest, times, together
-from bestlooks.tables import Table
-from bestlooks.vectors import pairs, scaled
+from bestlooks.tables import gathered
+from bestlooks.vectors import pairs
 
 # Where so many counts or fewer are left, it is quicker to look at all of them than to find a leaf that bars them.
 FEW = 12
@@ -27,8 +27,8 @@ class Counted:
     def __init__(self, looks):
         columns = [together(column) for column in zip(*looks.rows)]
         self.bottoms = [bottom for _, bottom in columns]
-        rows = list(zip(*[tops for tops, _ in columns]))
-        self.products = [[[one * two for two in row] for one in row] for row in rows]
+        lines = [tops for tops, _ in columns]
+        self.products = [[[one * two for two in row] for one in row] for row in zip(*lines)]
 
     def table_of(self, counts):
         """The table of counts, of integers."""
@@ -68,14 +68,9 @@ def all_counts(places, many):
     return [counts + (many - sum(counts),) for counts in found]
 
 
-def product_of(row):
-    """The Table of the products of each two items of a row."""
-    return Table([scaled(row, item) for item in row])
-
-
 def tree_of(paper, looks, many):
     """The tree for many looks at the places of a list."""
-    products = [product_of(row) for row in looks.rows]
+    products = [gathered([row], [1]) for row in looks.rows]
     return _branch(paper, products, 0, many, products[0] * 0)
 
 
@@ -90,7 +85,7 @@ def _branch(paper, products, at, left, table):
 
 def is_tree(paper, looks, many, value):
     """Whether any value is a tree for many looks at the places of a list."""
-    products = [product_of(row) for row in looks.rows]
+    products = [gathered([row], [1]) for row in looks.rows]
     return _is_branch(paper, products, value, 0, many, products[0] * 0)
 
 
@@ -129,9 +124,7 @@ def near_table(rows, left, table, aim, frame):
     half = ONE >> (2 * BITS + 1)
     parts = [(part + half) >> (FINE - 2 * BITS) for part in shares]
     whole = sum(parts)
-    for part, row in zip(parts, rows):
-        table = table + product_of(row) * (part * left, whole)
-    return table
+    return table + gathered(rows, [(part * left, whole) for part in parts])
 
 
 def fine_asked(row, frame):
